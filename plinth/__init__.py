@@ -1,0 +1,1 @@
+"""Plinth: a small machine, its languages, and a tower of compilers."""

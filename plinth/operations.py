@@ -1,0 +1,30 @@
+"""Codes of the machine's operations, and what single operations compute."""
+
+NOP = 32
+PUT = 33
+PUSH = 35
+CALL_IF_DEFINED = 36
+CELL = 38
+RETURN = 41
+TAKE = 44
+SET = 61
+BRANCH = 63
+GET = 64
+
+
+def combined(operation, x, y):
+    """Returns what one of `+ - * < ~` pushes for the popped x and y."""
+    if operation == 43:
+        return x + y
+    if operation == 45:
+        return x - y
+    if operation == 42:
+        return 10 * x + y
+    if operation == 60:
+        return int(x < y)
+    return int(x == y)
+
+
+def can_call(nodes, number):
+    """Tells whether `$` calls a popped number in an image with these nodes."""
+    return 1 <= number <= 199 and nodes.node(number) is not None
