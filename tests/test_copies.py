@@ -2,7 +2,7 @@
 
 import unittest
 
-from plinth import digits, machine, nodes, signs, story
+from plinth import digits, lists, machine, nodes, printing, reading, short, signs, story, translate, trees
 from tests.helpers import cells
 from tests.sharing import check_call, containers
 
@@ -49,6 +49,43 @@ class CopiesTest(unittest.TestCase):
         check_call(self, digits.read_digits, [[49, 32, 50]])
         check_call(self, digits.write_digits, [[7, 12]])
         check_call(self, digits.write_digits, [[]])
+
+    def test_short(self):
+        check_call(self, short.translate_short, [[43, 39, 97, -1, 43]])
+        check_call(self, short.translate_short, [[]])
+        reader, piece = short.ShortReader(), [43, 39, 97]
+        reader.feed(piece)
+        self.assertEqual([43, 39, 97], piece)
+        image, again = reader.image(), reader.image()
+        self.assertFalse(containers(image) & containers([piece, again]))
+
+    def test_lists(self):
+        image = cells((0, 35, 5, 1), (1, 46, 0, 2))
+        check_call(self, lists.listing, [image])
+        check_call(self, lists.can_list, [image])
+        check_call(self, lists.can_list, [image + [1]])
+
+    def test_trees(self):
+        tree = [("choose", [("num", 1)], [("loop", [])]), ("def", 70, [("num", 2), ("num", 3)]), ("def", 65, [])]
+        check_call(self, trees.depth_of, [tree])
+        check_call(self, trees.size_of, [tree])
+        check_call(self, trees.defined_in, [tree])
+        check_call(self, trees.defined_in, [[]])
+        check_call(self, printing.write, [tree])
+
+    def test_reading(self):
+        tree = check_call(self, reading.read, ["[1|{}]:F2 3;[]{}"])
+        self.assertEqual(7, len(containers(tree)))
+        check_call(self, reading.read, [""])
+
+    def test_translate(self):
+        check_call(self, translate.translate, [[43, 49, 39, 97, -1, 43]])
+        check_call(self, translate.translate, [[43]], first=-1, by=-1)
+        check_call(self, translate.translate, [[]])
+        one, other = translate.Translator(), translate.Translator()
+        self.assertFalse(containers([one.image, one.pile]) & containers([other.image, other.pile]))
+        image, again = one.finish(), one.finish()
+        self.assertFalse(containers(image) & containers([one.image, again]))
 
 
 if __name__ == "__main__":
