@@ -121,6 +121,11 @@ _ACTIONS = {
 }
 
 
+def is_operation(code):
+    """Tells whether a code is one of the machine's operations."""
+    return code in _ACTIONS or is_small(code) or is_capital(code)
+
+
 class State:
     """A state of the run of an image on an input."""
 

@@ -5,11 +5,16 @@ PUT = 33
 PUSH = 35
 CALL_IF_DEFINED = 36
 CELL = 38
+CALL = 40
 RETURN = 41
 TAKE = 44
 SET = 61
 BRANCH = 63
 GET = 64
+DROP = 95
+
+# The codes of `+ - * < ~`.
+COMBINING = (43, 45, 42, 60, 126)
 
 
 def combined(operation, x, y):

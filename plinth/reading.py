@@ -1,10 +1,10 @@
 """Texts read as trees."""
 
 from plinth.errors import Malformed
-from plinth.signs import is_capital, is_character, is_small
+from plinth.signs import is_capital, is_character, is_small, with_digit
+from plinth.trees import MOST_DEEP, is_num, is_op
 
 _DIGITS = "0123456789"
-_OPERATIONS = "+-*<~@!,.^$_\"\\"
 _BLANKS = " \n"
 # What closes a list, by the sign with which it began.
 _CLOSING = {"[": "]", "|": "]", "{": "}", ":": ";"}
@@ -50,7 +50,7 @@ class Reader:
     def _take(self, sign):
         if sign in _DIGITS:
             self._take_numeral()
-        elif sign in _OPERATIONS or is_small(ord(sign)) or is_capital(ord(sign)):
+        elif is_op(ord(sign)):
             self._add(("op", ord(sign)))
             self.at += 1
         elif sign in "'=":
@@ -72,9 +72,8 @@ class Reader:
     def _take_numeral(self):
         number = 0
         while self.at < len(self.text) and self.text[self.at] in _DIGITS:
-            if number >= 10 ** 17:
-                raise Malformed(self.at)
-            number = 10 * number + int(self.text[self.at])
+            number = with_digit(number, ord(self.text[self.at]))
+            self._check(is_num(number))
             self.at += 1
         self._add(("num", number))
 
@@ -95,7 +94,7 @@ class Reader:
 
     def _begin(self, sign):
         depth = len(self.parts)
-        self._check(depth == 1 if sign == ":" else depth < 30)
+        self._check(depth == 1 if sign == ":" else depth < MOST_DEEP)
         name = None
         if sign == ":":
             name = self._next_code()

@@ -1,5 +1,21 @@
 """Trees: programs as lists of items."""
 
+from plinth.signs import is_capital, is_small
+
+MOST_DEEP = 30
+# The codes of `+ - * < ~ @ ! , . ^ $ _ " \`.
+_SIGNS = (43, 45, 42, 60, 126, 64, 33, 44, 46, 94, 36, 95, 34, 92)
+
+
+def is_op(code):
+    """Tells whether a code may be that of an item ("op", code)."""
+    return code in _SIGNS or is_small(code) or is_capital(code)
+
+
+def is_num(number):
+    """Tells whether a number may be that of an item ("num", number)."""
+    return 0 <= number < 10 ** 18
+
 
 def inner_lists(item):
     """Returns the lists of items that an item has, in order."""

@@ -5,9 +5,8 @@ import unittest
 
 from plinth.nodes import nodes_of
 from plinth.translate import Translator, translate
-from tests.helpers import HUGE, codes
+from tests.helpers import HUGE, NUMBERS, codes
 
-NUMBERS = [(200, 1), (201, 1), (200, 7), (5000, 300), (-1, -1), (-1, -5), (-70, -1), (HUGE, HUGE)]
 SPECIAL = {39, 61, 58, 91, 124, 93, 123, 125, 59}
 
 

@@ -8,42 +8,7 @@ from plinth.errors import Malformed
 from plinth.printing import write
 from plinth.reading import read
 from plinth.trees import defined_in, depth_of, size_of
-from tests.helpers import CHARACTERS
-
-SIGNS = "+-*<~@!,.^$_\"\\"
-SMALL = "abcdefghijklmnopqrstuvwxyz"
-CAPITAL = SMALL.upper()
-
-
-def nested(depth, kind="when"):
-    """A tree of this depth."""
-    tree = []
-    for level in range(depth - 1):
-        if kind == "choose":
-            tree = [("choose", tree, [])] if level & 1 else [("choose", [], tree)]
-        else:
-            tree = [(kind, tree)]
-    return tree
-
-
-def some_tree(source, depth=1):
-    """A tree of all kinds of items, at most 6 deep."""
-    tree = []
-    for _ in range(source.randrange(5)):
-        kind = source.choice(["num", "num", "op", "put", "when", "choose", "loop", "def"])
-        if kind == "num":
-            tree.append(("num", source.choice([0, 7, 10, 10 ** 18 - 1, source.randrange(200)])))
-        elif kind == "op":
-            tree.append(("op", ord(source.choice(SIGNS + SMALL + CAPITAL))))
-        elif kind == "put":
-            tree.append(("put", ord(source.choice(SMALL))))
-        elif kind == "def" and depth == 1:
-            tree.append(("def", ord(source.choice(CAPITAL)), some_tree(source, 2)))
-        elif kind == "choose" and depth < 6:
-            tree.append(("choose", some_tree(source, depth + 1), some_tree(source, depth + 1)))
-        elif kind in ("when", "loop") and depth < 6:
-            tree.append((kind, some_tree(source, depth + 1)))
-    return tree
+from tests.helpers import CAPITAL, CHARACTERS, SIGNS, SMALL, nested, some_tree
 
 
 class MeasuresTest(unittest.TestCase):
