@@ -2,7 +2,8 @@
 
 import unittest
 
-from plinth import digits, lists, machine, nodes, printing, reading, short, signs, story, translate, trees
+from plinth import alike, build, builds, digits, generations, lists, machine, meaning, merge, nodes, plans, printing
+from plinth import reading, rungs, seed, short, signs, story, threads, translate, trees, trim, twins, untranslate
 from tests.helpers import cells
 from tests.sharing import check_call, containers
 
@@ -86,6 +87,63 @@ class CopiesTest(unittest.TestCase):
         self.assertFalse(containers([one.image, one.pile]) & containers([other.image, other.pile]))
         image, again = one.finish(), one.finish()
         self.assertFalse(containers(image) & containers([one.image, again]))
+
+    def test_meaning(self):
+        tree = [("choose", [("num", 1)], [("loop", [])]), ("def", 70, [("op", 46)]), ("op", 70), ("op", 46)]
+        check_call(self, meaning.mean, [tree, [5, 6], 20])
+        check_call(self, untranslate.untranslate, [translate.translate(signs.codes_of("[1|{2}]:F3;"))])
+        check_call(self, untranslate.untranslate, [IMAGE])
+
+    def test_changes_of_images(self):
+        closed = cells((0, 32, 0, 300), (300, 63, 301, 302), (301, 32, 0, 302), (302, 70, 0, 5), (400, 43, 0, 0)) + [7]
+        for image in (closed, [0, 38, 0, 1], []):
+            for call in (threads.reachable, threads.is_closed, trim.thread, trim.fold, trim.prune, trim.renumber,
+                         trim.trim, trim.certificate, merge.classes, merge.merge, merge.canonical):
+                check_call(self, call, [image])
+            check_call(self, threads.target, [image, 0])
+            check_call(self, threads.accepts, [image, trim.prune(trim.thread(image)), trim.certificate(image)])
+
+    def test_tower(self):
+        check_call(self, seed.seed_image, [])
+        check_call(self, rungs.rung_names, [])
+        texts, codes = (("plain", "5"), ("plain", "6")), [49, 50]
+        tower = build.Tower(texts=texts)
+        tower.finish()
+        self.assertEqual((("plain", "5"), ("plain", "6")), texts)
+        for name in tower:
+            check_call(self, tower.binary, [name])
+        for kind in ("digits", "short", "plain", "turned"):
+            check_call(self, tower.serve, [kind, codes])
+
+    def test_plans_and_builds(self):
+        given = {"copy": list(IMAGE), "text": [5, 6]}
+        plan = [("b", "copy", ("a", "text")), ("a", "copy", ("text",))]
+        for call in (plans.check_plan, plans.order_of):
+            check_call(self, call, [plan, given])
+        for call in (plans.needs, plans.users):
+            check_call(self, call, [plan, given, "a"])
+        check_call(self, plans.part_of, [plan, given, ["a"]])
+        check_call(self, builds.build_all, [plan, given], fuel=100)
+        check_call(self, builds.is_built, [plan, given, {"a": [5]}, "a"], fuel=100)
+        one = builds.Build(plan, given, fuel=100)
+        one.finish()
+        for name in ("a", "b", "copy"):
+            self.assertFalse(containers(check_call(self, one.content, [name])) & containers([given]))
+        check_call(self, one.record, [])
+        other = builds.go_on(one.record())
+        self.assertFalse(containers(one.content("a")) & containers(other.content("a")))
+
+    def test_comparisons_of_binaries(self):
+        image = cells((0, 44, 0, 1), (1, 46, 0, 2), (2, 35, 46, 3), (3, 46, 0, 200))
+        check_call(self, generations.child, [image, "A"])
+        check_call(self, generations.generations, [image, "A", 3])
+        check_call(self, generations.settle, [image, "A"])
+        check_call(self, generations.settle, [[], "A"])
+        check_call(self, twins.double, [[5], image, "A"])
+        check_call(self, twins.cross, [[image, []], ["A", "B"]])
+        check_call(self, twins.second_cross, [[image, []], ["A", "B"]])
+        check_call(self, alike.renaming, [image, image])
+        check_call(self, alike.with_numbers, [image + [200]], first=-1, by=-1)
 
 
 if __name__ == "__main__":

@@ -25,6 +25,11 @@ STATEMENTS = (
     ast.Pass, ast.Raise, ast.Assert, ast.Delete, ast.Nonlocal, ast.Match, ast.With, ast.Try, ast.Expr,
     ast.FunctionDef, ast.ClassDef, ast.ImportFrom,
 )
+# What may be imported from outside of the package.
+LIBRARY = {"heapq": {"heappush", "heappop", "heapify", "heapreplace", "heappushpop"}}
+# No attribute has the name of one of these methods.
+BARRED_ATTRIBUTES = set("""items keys values pop update append clear extend insert remove reverse setdefault sort args
+    encode decode hex fromhex format format_map mro""".split())
 DUNDERS = {"__init__", "__eq__", "__repr__", "__str__", "__len__", "__enter__", "__exit__", "__call__", "__iter__"}
 
 
@@ -89,9 +94,11 @@ class StatementsTest(unittest.TestCase):
             self.assertNotIsInstance(node, ast.Import, name)
             if isinstance(node, ast.ImportFrom):
                 self.assertEqual(0, node.level, name)
-                self.assertIn(node.module, trees, name)
+                self.assertIn(node.module, list(trees) + list(LIBRARY), name)
+                bound = LIBRARY.get(node.module) or bound_at_top(trees[node.module])
                 for alias in node.names:
-                    self.assertIn(alias.name, bound_at_top(trees[node.module]), name)
+                    self.assertIn(alias.name, bound, name)
+                    self.assertIsNone(alias.asname, name)
 
     def test_imports_are_used(self):
         for name, tree in parsed().items():
@@ -180,6 +187,18 @@ class NamesTest(unittest.TestCase):
                 self.assertNotIn(node.attr, BARRED | {"format", "args"}, (name, node.lineno))
                 if node.attr in of_builtins:
                     self.assertIn(node.attr, METHODS, (name, node.lineno))
+
+
+    def test_assigned_attributes(self):
+        methods, attributes = set(), set()
+        for name, node in all_nodes():
+            if isinstance(node, ast.Attribute) and isinstance(node.ctx, ast.Store):
+                self.assertNotIn(node.attr, BARRED_ATTRIBUTES, (name, node.lineno))
+                attributes.add(node.attr)
+            if isinstance(node, ast.FunctionDef) and node.decorator_list:
+                self.assertEqual(["property"], [decorator.id for decorator in node.decorator_list], (name, node.name))
+                methods.add(node.name)
+        self.assertFalse(methods & attributes)
 
 
 class ValuesTest(unittest.TestCase):
