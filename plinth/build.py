@@ -57,7 +57,6 @@ class Tower:
 
     def finish(self, *, fuel=100000):
         """Grows as long as it can, and tells whether the tower is complete."""
-        check_fuel(fuel)
         while self.grow(fuel=fuel) is not None:
             pass
         return self.complete

@@ -81,7 +81,7 @@ class Build:
 def go_on(record):
     """Returns a build that goes on from a record."""
     rules, items, fuel, done, steps = record
-    build = Build(rules, {name: list(content) for name, content in items}, fuel=fuel)
+    build = Build(rules, dict(items), fuel=fuel)
     build.take_over(done, steps)
     return build
 

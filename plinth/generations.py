@@ -31,7 +31,6 @@ def generations(binary, text, count, *, fuel=100000):
 def settle(binary, text, *, most=4, fuel=100000):
     """Returns the index of the first settled generation, and that generation."""
     codes = codes_of(text)
-    check_fuel(fuel)
     generation = list(binary)
     for index in range(most + 1):
         following = child_of(generation, codes, fuel)

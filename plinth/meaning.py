@@ -81,4 +81,4 @@ def mean(tree, numbers, fuel):
     while steps < fuel and not execution.has_ended():
         execution.step()
         steps += 1
-    return (execution.has_ended(), list(execution.state.output), steps)
+    return (execution.has_ended(), execution.state.output, steps)

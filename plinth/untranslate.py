@@ -47,8 +47,8 @@ class Decoder:
         self._pile.append(number)
         return len(self._parts) <= MOST_DEEP
 
-    def _end(self, signs):
-        if self._innermost() == "" or self._innermost() not in signs:
+    def _end(self, *signs):
+        if self._innermost() not in signs:
             return False
         self._pile.pop()
         return self._add(self._parts.pop().item())
@@ -64,7 +64,7 @@ class Decoder:
 
     def _take_nop(self, successor, following):
         if self._pile and self._pile[-1] == successor:
-            return self._end("[|")
+            return self._end("[", "|")
         if successor == following:
             return self._begin(Part("{"), successor)
         if self._innermost() != "[":

@@ -77,6 +77,13 @@ def translated(tree, **numbers):
     return translate(codes(write(tree)), **numbers)
 
 
+def counter(steps):
+    """An image whose runs take exactly so many steps, at least 8."""
+    rounds, rest = divmod(steps - 1, 4)
+    nops = [(5 + at, 32, 0, 6 + at) for at in range(rest)]
+    return cells((0, 35, rounds, 1), (1, 35, 1, 2), (2, 45, 0, 3), (3, 34, 0, 4), (4, 63, 5, 1), *nops)
+
+
 def outcome(image, numbers, fuel):
     """Whether a run has ended, its outcome ([81]), and its steps."""
     state = State(image, numbers)

@@ -112,6 +112,16 @@ class FuelTest(unittest.TestCase):
         self.assertIs(True, tower.finish(fuel=most))
         self.assertEqual(translate(codes(rung_text("turned"))), tower.binary("turned"))
 
+    def test_default(self):
+        tower = Tower(texts=(("first", ENDLESS),))
+        tower.grow()
+        steps = tower.steps
+        tower.grow()
+        self.assertEqual(steps + 100000, tower.steps)
+        tower.finish()
+        self.assertEqual(steps + 200000, tower.steps)
+        self.assertEqual((False, [], 100000), tower.serve("short", []))
+
     def test_negative(self):
         for tower in (Tower(), complete_tower()):
             before = (len(tower), tower.steps)

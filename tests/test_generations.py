@@ -8,7 +8,7 @@ from plinth.generations import child, generations, settle
 from plinth.machine import run
 from plinth.rungs import rung_text
 from plinth.translate import translate
-from tests.helpers import NUMBERS, cells, codes
+from tests.helpers import NUMBERS, cells, codes, counter
 
 PLAIN = rung_text("plain")
 TURNED = rung_text("turned")
@@ -60,6 +60,8 @@ class ChildTest(unittest.TestCase):
         self.assertEqual(codes("ab"), child(COPY, "ab", fuel=steps))
         self.assertIsNone(child(COPY, "ab", fuel=steps - 1))
         self.assertIsNone(child(LOOP, ""))
+        self.assertEqual([], child(counter(100000), ""))
+        self.assertIsNone(child(counter(100001), ""))
         self.assertEqual([], child([], "", fuel=0))
 
     def test_errors(self):
@@ -89,6 +91,8 @@ class GenerationsTest(unittest.TestCase):
         self.assertEqual([binary], generations(binary, "", 0))
         self.assertEqual([binary], generations(binary, "", 5, fuel=7))
         self.assertEqual([binary, LOOP], generations(binary, "", 5, fuel=8))
+        self.assertEqual([counter(100000), []], generations(counter(100000), "", 1))
+        self.assertEqual([counter(100001)], generations(counter(100001), "", 1))
 
     def test_generation_zero_is_a_copy(self):
         binary = writer([5])
@@ -100,6 +104,12 @@ class GenerationsTest(unittest.TestCase):
 class SettleTest(unittest.TestCase):
     def test_settled(self):
         self.assertEqual((0, []), settle([], "ab"))
+        self.assertEqual((1, []), settle(counter(100000), ""))
+        self.assertIsNone(settle(counter(100001), ""))
+        binary = writer(writer([7, 7, 7, 7]))
+        self.assertEqual((3, []), settle(binary, ""))
+        self.assertEqual((4, []), settle(writer(binary), ""))
+        self.assertIsNone(settle(writer(writer(binary)), ""))
         self.assertEqual((1, []), settle([7], "ab"))
         binary = writer(writer([7]))
         self.assertEqual((3, []), settle(binary, ""))

@@ -204,10 +204,13 @@ class AcceptsTest(unittest.TestCase):
             self.refused(folding, cells((0, 35, value + 1, 300)), (0, 0), (300, 12))
             self.refused(folding, cells((0, 61, value, 300)), (0, 0), (300, 12))
         for last in ("@", "!", " ", ".", "\\"):
-            self.refused(old + cells((11, ord(last), 0, 12)), cells((0, 35, 5, 300)), (0, 0), (300, 12))
+            for value in (5, -1, 23, 1, 0, 2, 3):
+                self.refused(old + cells((11, ord(last), 0, 12)), cells((0, 35, value, 300)), (0, 0), (300, 12))
         self.refused(old, cells((0, 35, 5, 300)), (0, 0), (300, 12))
-        broken = cells((0, 35, 2, 8), (8, 34, 0, 9), (9, 43, 0, 12))
-        self.refused(broken, cells((0, 35, 4, 300)), (0, 0), (300, 12))
+        for sign in "\"=+":
+            broken = cells((0, 35, 2, 8), (8, ord(sign), 3, 9), (9, 43, 0, 12))
+            for value in (4, 2, 5):
+                self.refused(broken, cells((0, 35, value, 300)), (0, 0), (300, 12))
         self.refused(cells((0, 34, 2, 8), (8, 35, 3, 9), (9, 43, 0, 12)), cells((0, 35, 5, 300)), (0, 0), (300, 12))
         self.refused(cells((0, 35, 2, 8), (8, 32, 3, 8)), cells((0, 35, 5, 300)), (0, 0), (300, 12))
 

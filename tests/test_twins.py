@@ -9,7 +9,7 @@ from plinth.machine import run
 from plinth.rungs import rung_text
 from plinth.translate import translate
 from plinth.twins import cross, double, second_cross
-from tests.helpers import cells, codes
+from tests.helpers import cells, codes, counter
 
 PLAIN = rung_text("plain")
 TURNED = rung_text("turned")
@@ -75,6 +75,13 @@ class DoubleTest(unittest.TestCase):
         for second in (LOOP, [], COPY):
             with self.assertRaises(BadFuel):
                 double([], second, "a", fuel=-1)
+
+
+    def test_default_fuel(self):
+        for call, limit in ((cross, [[[]], [None]]), (second_cross, [[[]], [None]])):
+            self.assertEqual(limit, call([counter(100000), counter(100001)], [""]))
+        self.assertEqual(("same",), double([], counter(100000), ""))
+        self.assertEqual(("stuck", 1), double([], counter(100001), ""))
 
 
 class CompilersTest(unittest.TestCase):
