@@ -4,7 +4,10 @@ import copy
 
 
 def containers(value):
-    """The numbers of all lists and dicts within a value."""
+    """The numbers of all lists and dicts within a value.
+
+    The values that are compared must still exist: another list may get the
+    number of one that is gone."""
     if isinstance(value, dict):
         inner = list(value.keys()) + list(value.values())
     elif isinstance(value, (list, tuple)):

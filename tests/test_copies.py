@@ -34,8 +34,8 @@ class CopiesTest(unittest.TestCase):
         one, other = machine.State(image, numbers), machine.State(image, numbers)
         one.advance(fuel=9)
         self.assertEqual((IMAGE, [7, 8]), (image, numbers))
-        mine = containers([one.stack, one.back, one.output, one.store])
-        theirs = containers([other.stack, other.back, other.output, other.store])
+        mine = containers((one.stack, one.back, one.output, one.store))
+        theirs = containers((other.stack, other.back, other.output, other.store))
         self.assertFalse(mine & theirs)
 
     def test_story(self):
@@ -84,7 +84,7 @@ class CopiesTest(unittest.TestCase):
         check_call(self, translate.translate, [[43]], first=-1, by=-1)
         check_call(self, translate.translate, [[]])
         one, other = translate.Translator(), translate.Translator()
-        self.assertFalse(containers([one.image, one.pile]) & containers([other.image, other.pile]))
+        self.assertFalse(containers((one.image, one.pile)) & containers((other.image, other.pile)))
         image, again = one.finish(), one.finish()
         self.assertFalse(containers(image) & containers([one.image, again]))
 
@@ -128,10 +128,12 @@ class CopiesTest(unittest.TestCase):
         one = builds.Build(plan, given, fuel=100)
         one.finish()
         for name in ("a", "b", "copy"):
-            self.assertFalse(containers(check_call(self, one.content, [name])) & containers([given]))
+            content = check_call(self, one.content, [name])
+            self.assertFalse(containers(content) & containers(given))
         check_call(self, one.record, [])
         other = builds.go_on(one.record())
-        self.assertFalse(containers(one.content("a")) & containers(other.content("a")))
+        mine, theirs = one.content("a"), other.content("a")
+        self.assertFalse(containers(mine) & containers(theirs))
 
     def test_comparisons_of_binaries(self):
         image = cells((0, 44, 0, 1), (1, 46, 0, 2), (2, 35, 46, 3), (3, 46, 0, 200))
