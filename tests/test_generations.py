@@ -141,7 +141,8 @@ class CompilersTest(unittest.TestCase):
     def test_all_choices_of_numbers(self):
         tower = grown()
         binaries = [tower.binary("second"), tower.binary("plain"), tower.binary("turned")]
-        binaries += [translate(codes(text), first=first, by=by) for text in (PLAIN, TURNED) for first, by in NUMBERS[2:6]]
+        binaries += [translate(codes(text), first=first, by=by)
+                     for text in (PLAIN, TURNED) for first, by in NUMBERS[2:6]]
         for binary in binaries:
             plain = generations(binary, PLAIN, 3)
             self.assertEqual([tower.binary("plain")] * 2, plain[2:])

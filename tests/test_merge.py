@@ -225,8 +225,8 @@ class ChangesTest(unittest.TestCase):
             numbers = [number for number in list(range(-5, 350)) if number not in inside]
             if calls_all:
                 numbers = [number for number in numbers if not 0 <= number < 200]
-            more = [(self.source.choice(numbers), self.source.choice([43, 38, 63, 70, 32]), 0, self.source.choice(numbers))
-                    for _ in range(5)]
+            choice = self.source.choice
+            more = [(choice(numbers), choice([43, 38, 63, 70, 32]), 0, choice(numbers)) for _ in range(5)]
             self.assertEqual(canonical(image), canonical(cells(*(more + nodes))))
             less = [node for node in nodes if node[0] in inside]
             self.assertEqual(canonical(image), canonical(cells(*less)))
