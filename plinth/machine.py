@@ -40,7 +40,8 @@ def _set_argument(state, node):
 
 
 def _take_number(state, _):
-    if state.place < len(state.numbers):
+    # No run has a negative place, but a false claim may have one.
+    if 0 <= state.place < len(state.numbers):
         state.stack.append(state.numbers[state.place])
         state.place += 1
     else:

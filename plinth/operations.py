@@ -2,16 +2,21 @@
 
 NOP = 32
 PUT = 33
+DOUBLE = 34
 PUSH = 35
 CALL_IF_DEFINED = 36
 CELL = 38
 CALL = 40
 RETURN = 41
+ADD = 43
 TAKE = 44
+WRITE = 46
 SET = 61
 BRANCH = 63
 GET = 64
+REWIND = 94
 DROP = 95
+EQUAL = 126
 
 # The codes of `+ - * < ~`.
 COMBINING = (43, 45, 42, 60, 126)

@@ -108,6 +108,6 @@ def footprint(image, numbers, state):
     pops, pushes = _counts(nodes, operation, top)
     reads = _address_read(operation, top)
     writes = _address_written(operation, argument, top)
-    takes = operation == TAKE and place < len(numbers)
+    takes = operation == TAKE and 0 <= place < len(numbers)
     cell = top if operation == CELL else None
     return (pops, pushes, reads, writes, takes, cell)

@@ -1,16 +1,9 @@
 """Double compilation: is a binary what a text of a compiler means?"""
 
+from plinth.audit import first_difference
 from plinth.generations import child_of
 from plinth.machine import check_fuel
 from plinth.signs import codes_of
-
-
-def _first_difference(one, other):
-    """Returns the first index at which two lists differ."""
-    for at in range(min(len(one), len(other))):
-        if one[at] != other[at]:
-            return at
-    return min(len(one), len(other))
 
 
 def double(suspect, second, text, *, fuel=100000):
@@ -22,9 +15,8 @@ def double(suspect, second, text, *, fuel=100000):
     late = child_of(early, codes, fuel)
     if late is None:
         return ("stuck", 2)
-    if late == suspect:
-        return ("same",)
-    return ("apart", _first_difference(late, suspect))
+    place = first_difference(late, suspect)
+    return ("same",) if place is None else ("apart", place)
 
 
 def _second_child(binary, codes, fuel):

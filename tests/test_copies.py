@@ -2,8 +2,9 @@
 
 import unittest
 
-from plinth import alike, build, builds, digits, generations, lists, machine, meaning, merge, nodes, plans, printing
-from plinth import reading, rungs, seed, short, signs, story, threads, translate, trees, trim, twins, untranslate
+from plinth import alike, audit, build, builds, claims, digits, disputes, generations, lists, machine, meaning, merge
+from plinth import nodes, origin, plans, printing, reading, rungs, seed, shelf, short, signs, story, threads, translate
+from plinth import traps, trees, trim, twins, untranslate
 from tests.helpers import cells
 from tests.sharing import check_call, containers
 
@@ -146,6 +147,49 @@ class CopiesTest(unittest.TestCase):
         check_call(self, twins.second_cross, [[image, []], ["A", "B"]])
         check_call(self, alike.renaming, [image, image])
         check_call(self, alike.with_numbers, [image + [200]], first=-1, by=-1)
+
+    def test_traps(self):
+        image = translate.translate(signs.codes_of("2."))
+        whole = check_call(self, traps.plant, [image, [1, 2], [5, 6, 7, 8]])
+        check_call(self, traps.planted, [whole])
+        check_call(self, traps.cleaned, [whole])
+        self.assertIsNone(check_call(self, traps.planted, [image]))
+
+    def test_shelf_and_audit(self):
+        tower = build.Tower()
+        tower.finish()
+        entries, binary = shelf.Shelf(), list(IMAGE)
+        for method, arguments in ((entries.put, ["a", "plain", "2.", binary]), (entries.put, ["b", "short", "5#", []]),
+                                  (entries.clone, ["a", "b"]), (entries.swap, ["a", "b"]), (entries.damage, ["a", 0, 5])):
+            method(*arguments)
+            self.assertEqual(IMAGE, binary)
+        self.assertFalse(containers([entries.binary("a"), entries.binary("b")]) & containers(binary))
+        one, other = entries.binary("a"), entries.binary("b")
+        self.assertFalse(containers(one) & containers(other))
+        for name in ("a", "b"):
+            check_call(self, entries.binary, [name])
+        check_call(self, entries.names, [])
+        check_call(self, audit.due, ["plain", "2."])
+        check_call(self, audit.first_difference, [[1, 2], [1, 3]])
+        before = [(name, entries.binary(name)) for name in entries.names()]
+        check_call(self, lambda: audit.audit(entries), [])
+        check_call(self, lambda: audit.rebuild(entries, tower), [])
+        self.assertEqual(before, [(name, entries.binary(name)) for name in entries.names()])
+
+    def test_claims_and_disputes(self):
+        claim = check_call(self, claims.right_claim, [IMAGE, [7, 8]], fuel=99)
+        wrong = claim[:2] + [STATE]
+        check_call(self, claims.result_of, [claim])
+        check_call(self, claims.entry, [claim, 2])
+        for index in (0, 2, 99):
+            check_call(self, claims.due, [IMAGE, [7, 8], claim, index])
+        check_call(self, claims.first_fault, [IMAGE, [7, 8], wrong])
+        check_call(self, disputes.dispute, [IMAGE, [7, 8], claim, wrong])
+        check_call(self, disputes.settle, [IMAGE, [7, 8], [wrong, claim, claim]])
+
+    def test_origins(self):
+        self.assertEqual([[0]], check_call(self, origin.origins, [IMAGE, [7, 8]], fuel=99))
+        check_call(self, origin.control, [[0, 44, 0, 1, 1, 63, 0, 0], [7, 8]], fuel=99)
 
 
 if __name__ == "__main__":
