@@ -11,11 +11,6 @@ def check_claim(claim):
         raise BadClaim("the claim has no state")
 
 
-def _check_index(index):
-    if index < 0:
-        raise BadClaim("the index of an entry is negative")
-
-
 def right_claim(image, numbers, *, fuel):
     """Returns the right claim, or None if the run does not end."""
     # A story may be large, so it is made only for a run that ends.
@@ -31,13 +26,13 @@ def result_of(claim):
 
 def entry(claim, index):
     """Returns an entry, None behind the last state."""
-    _check_index(index)
+    if index < 0:
+        raise BadClaim("the index of an entry is negative")
     return claim[index] if index < len(claim) else None
 
 
 def due(image, numbers, claim, index):
     """Returns the entry that is due behind the one before it in the claim."""
-    _check_index(index)
     if index == 0:
         return start(image, numbers)
     before = entry(claim, index - 1)

@@ -79,6 +79,13 @@ class Shelf:
         self._check(name)
         return list(self._binaries[name])
 
+    def copied(self):
+        """Returns a shelf that has the same entries and changes on its own."""
+        other = Shelf()
+        other._sources = dict(self._sources)
+        other._binaries = dict(self._binaries)
+        return other
+
     def _check(self, name):
         if name not in self._binaries:
             raise NoEntry(name)

@@ -130,7 +130,8 @@ class AuditTest(unittest.TestCase):
         tower = complete_tower()
         audit(shelf)
         rebuild(shelf, tower)
-        self.assertEqual(before, [(name, shelf.kind(name), shelf.text(name), shelf.binary(name)) for name in shelf.names()])
+        self.assertEqual(before, [(name, shelf.kind(name), shelf.text(name),
+                                   shelf.binary(name)) for name in shelf.names()])
 
 
 class RebuildTest(unittest.TestCase):

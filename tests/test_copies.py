@@ -2,9 +2,9 @@
 
 import unittest
 
-from plinth import alike, audit, build, builds, claims, digits, disputes, generations, lists, machine, meaning, merge
-from plinth import nodes, origin, plans, printing, reading, rungs, seed, shelf, short, signs, story, threads, translate
-from plinth import traps, trees, trim, twins, untranslate
+from plinth import alike, audit, build, builds, claims, desk, digits, disputes, generations, journal, link, lists
+from plinth import machine, meaning, merge, modules, nodes, origin, plans, printing, quines, reading, rungs, saves, seed
+from plinth import shelf, short, signs, story, threads, translate, traps, trees, trim, twins, untranslate, words
 from tests.helpers import cells
 from tests.sharing import check_call, containers
 
@@ -160,7 +160,8 @@ class CopiesTest(unittest.TestCase):
         tower.finish()
         entries, binary = shelf.Shelf(), list(IMAGE)
         for method, arguments in ((entries.put, ["a", "plain", "2.", binary]), (entries.put, ["b", "short", "5#", []]),
-                                  (entries.clone, ["a", "b"]), (entries.swap, ["a", "b"]), (entries.damage, ["a", 0, 5])):
+                                  (entries.clone, ["a", "b"]), (entries.swap, ["a", "b"]),
+                                  (entries.damage, ["a", 0, 5])):
             method(*arguments)
             self.assertEqual(IMAGE, binary)
         self.assertFalse(containers([entries.binary("a"), entries.binary("b")]) & containers(binary))
@@ -190,6 +191,77 @@ class CopiesTest(unittest.TestCase):
     def test_origins(self):
         self.assertEqual([[0]], check_call(self, origin.origins, [IMAGE, [7, 8]], fuel=99))
         check_call(self, origin.control, [[0, 44, 0, 1, 1, 63, 0, 0], [7, 8]], fuel=99)
+
+    def test_links_and_libraries(self):
+        module, image = translate.translate(signs.codes_of(":F1+;")), translate.translate(signs.codes_of("2F."))
+        check_call(self, link.is_linkable, [image])
+        check_call(self, link.exit_of, [image])
+        for images in ([], [image], [module, image], [image, image]):
+            check_call(self, link.link, [images])
+        for call in (modules.defines, modules.calls, modules.is_silent):
+            check_call(self, call, [module])
+        library = modules.Library()
+        library.add("a", module)
+        one, other = library.image("a"), library.image("a")
+        self.assertEqual(translate.translate(signs.codes_of(":F1+;")), module)
+        self.assertFalse(containers([one]) & containers([other, module]))
+        for call in (library.needed, library.missing, library.joined):
+            check_call(self, call, [image])
+
+    def test_saved_runs(self):
+        check_call(self, saves.checksum, [[1, 2]])
+        saved = check_call(self, saves.save, [IMAGE, [7, 8], STATE], steps=3)
+        check_call(self, saves.load, [saved])
+        check_call(self, saves.fault_at, [saved])
+        check_call(self, saves.fault_at, [saved[:-1]])
+        check_call(self, saves.continued, [saved], fuel=0)
+        check_call(self, saves.continued, [saved], fuel=9)
+
+    def test_trials(self):
+        state = machine.State(IMAGE, [7, 8])
+        state.advance(fuel=2)
+        parts = (state.stack, state.store, state.back, state.output)
+        before = ([7, 7], {}, [], [])
+        for call in (lambda: saves.tried(state, fuel=9), lambda: saves.tried_twice(state, first=1, second=9)):
+            check_call(self, call, [])
+            self.assertEqual(before, parts)
+            self.assertEqual((before, 2), ((state.stack, state.store, state.back, state.output), state.steps))
+
+    def test_quines(self):
+        check_call(self, quines.list_writer, [[]])
+        check_call(self, quines.list_writer, [[1, 2]])
+        for payload in ([], [200, 1, 2]):
+            image = check_call(self, quines.self_image, [payload])
+            check_call(self, quines.is_self_writer, [image])
+        images = check_call(self, quines.ring_images, [3])
+        self.assertEqual(4, len(containers(images)))
+        check_call(self, quines.is_ring, [images])
+
+    def test_words(self):
+        for line in ("show a", "text a b", "text a", "a"):
+            check_call(self, words.words_of, [line])
+
+    def test_desk(self):
+        one, lines = desk.Desk(), ["numbers a 0 44 0 1", "text b xy", "run c a b 9", "put e plain b a", "take d e",
+                                   "rule f a b"]
+        self.assertEqual(["ok", "ok", "ended 1", "ok", "4", "ok"],
+                         check_call(self, lambda: desk.Desk().answers(lines), []))
+        answers = one.answers(lines)
+        self.assertEqual("numbers a 0 44 0 1", lines[0])
+        self.assertFalse(containers(answers) & containers(lines))
+        check_call(self, one.names, [])
+        for name in ("a", "b", "c", "d"):
+            check_call(self, one.content, [name])
+
+    def test_journal(self):
+        one, lines = journal.Journal(), ["numbers a 5 6", "show a"]
+        check_call(self, lambda: journal.attempt(one, lines), [])
+        journal.attempt(one, lines, keep=True)
+        self.assertEqual(["numbers a 5 6", "show a"], lines)
+        check_call(self, one.lines, [])
+        check_call(self, one.content, ["a"])
+        mine, theirs = one.content("a"), journal.resume(one.record()).content("a")
+        self.assertFalse(containers(mine) & containers(theirs))
 
 
 if __name__ == "__main__":

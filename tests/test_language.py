@@ -148,6 +148,34 @@ class StatementsTest(unittest.TestCase):
                     self.assertTrue(not method.startswith("__") or method in DUNDERS, (name, method))
 
 
+    def test_methods_and_attributes_of_a_class(self):
+        for name, node in all_nodes():
+            if isinstance(node, ast.ClassDef):
+                methods = {row.name for row in node.body if isinstance(row, ast.FunctionDef)}
+                attributes = {part.attr for part in ast.walk(node)
+                              if isinstance(part, ast.Attribute) and isinstance(part.ctx, ast.Store)}
+                self.assertFalse(methods & attributes, (name, node.name))
+
+    def test_ends_of_with_statements(self):
+        allowed = (ast.Assign, ast.If, ast.Name, ast.Attribute, ast.Compare, ast.BoolOp, ast.Or, ast.And, ast.Is,
+                   ast.IsNot,
+                   ast.Constant, ast.Load, ast.Store)
+        for name, node in all_nodes():
+            if isinstance(node, ast.FunctionDef) and node.name == "__exit__":
+                self.assertEqual(["self", "kind", "value", "trace"], [part.arg for part in node.args.args], name)
+                for part in [part for row in node.body for part in ast.walk(row)]:
+                    self.assertIsInstance(part, allowed, (name, node.lineno))
+                    self.assertNotIn(getattr(part, "id", None), ("value", "trace"), name)
+
+    def test_errors_that_are_caught(self):
+        own = bound_at_top(parsed()["plinth.errors"])
+        for name, node in all_nodes():
+            if isinstance(node, ast.ExceptHandler):
+                self.assertIn(node.type.id, own, (name, node.lineno))
+            if isinstance(node, ast.Raise):
+                self.assertIn(node.exc.func.id, own, (name, node.lineno))
+
+
 class NamesTest(unittest.TestCase):
     def test_bound_names(self):
         for name, node in all_nodes():
@@ -187,7 +215,6 @@ class NamesTest(unittest.TestCase):
                 self.assertNotIn(node.attr, BARRED | {"format", "args"}, (name, node.lineno))
                 if node.attr in of_builtins:
                     self.assertIn(node.attr, METHODS, (name, node.lineno))
-
 
     def test_assigned_attributes(self):
         methods, attributes = set(), set()

@@ -43,6 +43,12 @@ class RowsTest(unittest.TestCase):
         # The integer was popped, and the 0 of the empty stack is another one.
         self.check(",..", [5], [[0], []])
 
+        # It is an address, and a number that may be called, too.
+        self.check(",=@.", [5], [[0]])
+        self.check(",=!0#@.", [5], [[]])
+        self.check(",1=!1#@.", [5], [[0]])
+        self.check("_$.", [5], [[]])
+
     def test_cells(self):
         # A cell has no origin, but the index decides.
         self.check("0#&.", [5], [[]])
@@ -103,7 +109,8 @@ class RowsTest(unittest.TestCase):
         self.check("?", [5], [], (), 10)
 
     def test_call(self):
-        call = cells((0, 44, 0, 1), (1, 40, 0, 3), (7, 35, 1, 8), (8, 46, 0, 9), (9, 41, 0, 0), (3, 44, 0, 4), (4, 46, 0, 5))
+        call = cells((0, 44, 0, 1), (1, 40, 0, 3), (7, 35, 1, 8), (8, 46, 0, 9), (9, 41, 0, 0), (3, 44, 0, 4),
+                     (4, 46, 0, 5))
         self.check(call, [7, 5], [[0], [0, 1]], [0])
         self.check(call, [8, 5], [[0], [0, 1]], [0])
         self.check(call, [6, 5], [], [0])
@@ -131,7 +138,8 @@ class RowsTest(unittest.TestCase):
 
     def test_the_control_set_counts_from_the_step_on(self):
         # Writes the second integer before and behind a decision on the first one.
-        image = cells((0, 44, 0, 1), (1, 44, 0, 2), (2, 34, 0, 3), (3, 46, 0, 4), (4, 92, 0, 5), (5, 63, 6, 6), (6, 46, 0, 7))
+        image = cells((0, 44, 0, 1), (1, 44, 0, 2), (2, 34, 0, 3), (3, 46, 0, 4), (4, 92, 0, 5), (5, 63, 6, 6),
+                      (6, 46, 0, 7))
         self.check(image, [1, 5], [[1], [0, 1]], [0])
         self.check(image, [1, 5], [[1]], [0], fuel=6)
         self.check(image, [1, 5], [[1]], [], fuel=5)

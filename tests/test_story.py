@@ -42,6 +42,12 @@ class NextStateTest(unittest.TestCase):
         state = (0, (4,), (), (3,), 99, ())
         self.assertEqual((1, (4, -1), (), (3,), 99, ()), next_state(ECHO, [7], state))
 
+    def test_places_that_only_a_false_claim_has(self):
+        for place in (-1, -2, -HUGE):
+            state = (0, (4,), (), (), place, ())
+            self.assertEqual((1, (4, -1), (), (), place, ()), next_state(ECHO, [7], state))
+            self.assertIs(False, footprint(ECHO, [7], state)[4])
+
     def test_each_part_is_used(self):
         self.assertEqual((1, (4,), ((3, 4),), (), 0, ()), next_state(one_node("@"), [], (0, (3,), ((3, 4),), (), 0, ())))
         self.assertEqual((6, (), (), (5,), 0, ()), next_state(one_node(")"), [], (0, (), (), (5, 6), 0, ())))

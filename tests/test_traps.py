@@ -20,7 +20,8 @@ NOT_PLANTABLE = [
     SMALL_IMAGE + [HUGE, 32, 0, 1], SMALL_IMAGE + [5, 38, 0, 1], [5, 32, 0, 200] + SMALL_IMAGE,
 ]
 PLANTABLE = [
-    SMALL_IMAGE, [0, 32, 0, 0], [0, 32, 0, HUGE], SMALL_IMAGE + [B - 1, HUGE, -HUGE, HUGE], SMALL_IMAGE + [-1, 46, 38, 38],
+    SMALL_IMAGE, [0, 32, 0, 0], [0, 32, 0, HUGE], SMALL_IMAGE + [B - 1, HUGE, -HUGE, HUGE],
+    SMALL_IMAGE + [-1, 46, 38, 38],
     SMALL_IMAGE + [200, 35, 2, 0], SMALL_IMAGE + [-HUGE, 40, B, B],
 ]
 
@@ -36,7 +37,8 @@ def trap_cells(lure, extra):
     for x in extra:
         nodes += [(p, 35, x, p + 1), (p + 1, 46, 0, p + 2)]
         p += 2
-    nodes += [(p, 35, -4 * (len(nodes) + 10), p + 1), (p + 1, 34, 0, p + 2), (p + 2, 38, 0, p + 3), (p + 3, 46, 0, p + 4),
+    nodes += [(p, 35, -4 * (len(nodes) + 10), p + 1), (p + 1, 34, 0, p + 2), (p + 2, 38, 0, p + 3),
+              (p + 3, 46, 0, p + 4),
               (p + 4, 35, 1, p + 5), (p + 5, 43, 0, p + 6), (p + 6, 34, 0, p + 7), (p + 7, 63, p + 8, p + 1),
               (p + 8, 95, 0, end), (end, 41, 0, end + 1)]
     return cells(*nodes)
@@ -126,6 +128,16 @@ class PlantedTest(unittest.TestCase):
         for lure, extra in NOT_ALLOWED:
             self.not_planted(SMALL_IMAGE + trap_cells(lure, extra))
 
+    def test_traps_that_are_cut_off(self):
+        whole = plant(SMALL_IMAGE, [1, 2], [5, 6, 7, 8])
+        for size in range(len(SMALL_IMAGE), len(whole)):
+            self.not_planted(whole[:size])
+        # Nothing but the nodes of a lure, or of extra integers.
+        for sign in (44, 46):
+            for many in range(1, 14):
+                nodes = [(B + at, sign, 0, B + at + 1) for at in range(many)]
+                self.not_planted(SMALL_IMAGE + cells((0, 35, 3, B), *nodes))
+
     def test_planted_twice(self):
         once = plant(SMALL_IMAGE, [1], [])
         with self.assertRaises(NotPlantable):
@@ -168,7 +180,8 @@ class RunsTest(unittest.TestCase):
         copier = translate(codes("{,\".0<0~}"))
         trap = trap_cells([5, 6, 7], [1, -2, 3, HUGE])
         image = plant(copier, [5, 6, 7], [1, -2, 3, HUGE])
-        for numbers in ([], [5], [5, 6], [5, 6, 8], [5, 7, 6], [4, 6, 7], [0, 5, 6, 7], [6, 7], [5, 6, -1, 7], [5, 6, -1]):
+        for numbers in ([], [5], [5, 6], [5, 6, 8], [5, 7, 6], [4, 6, 7], [0, 5, 6, 7], [6, 7], [5, 6, -1, 7],
+                        [5, 6, -1]):
             ended, output, _ = run(image, numbers, fuel=9999)
             self.assertEqual((True, run(copier, numbers, fuel=9999)[1]), (ended, output), numbers)
         for rest in ([], [7], [-1], [-1, 5, 6, 7]):
